@@ -46,6 +46,9 @@ func (m *Machine) Over() bool { return m.s.Over }
 // Events yields what was shown, in order.
 func (m *Machine) Events() iter.Seq[api.Event] { return slices.Values(m.trace) }
 
+// Trace answers what was shown, in order; the machine is to be stepped no more.
+func (m *Machine) Trace() []api.Event { return m.trace }
+
 // show puts an event behind the others.
 func (m *Machine) show(e api.Event) { m.trace = append(m.trace, e) }
 
