@@ -162,7 +162,7 @@ func TestLowest(t *testing.T) {
 			running--
 			lock.Unlock()
 			return i, slices.Contains(good, i)
-		})
+		}, nil)
 		if running != 0 {
 			t.Fatal("not joined")
 		}
@@ -170,6 +170,27 @@ func TestLowest(t *testing.T) {
 			t.Fatal(many, good, got, ok)
 		}
 	}
+}
+
+// TestUntil is told to stop: nothing is found, and nobody works any more.
+func TestUntil(t *testing.T) {
+	stop := make(chan struct{})
+	tried := 0
+	var lock sync.Mutex
+	if _, ok := lowest(200, func(i int) (int, bool) {
+		lock.Lock()
+		defer lock.Unlock()
+		if tried++; tried == 5 {
+			close(stop)
+		}
+		return i, i == 199
+	}, stop); ok && tried < 200 {
+		t.Error("found behind the stop", tried)
+	}
+	c, p := parsed(t, all), pages(load, ret)
+	closed := make(chan struct{})
+	close(closed)
+	Until(closed, c, p, 0x1000, 200, 100)
 }
 
 func TestP27_4(t *testing.T) {
