@@ -196,7 +196,8 @@ func TestP26_2Low(t *testing.T) {
 	for i, change := range []func(s, t *api.State){
 		func(s, t *api.State) { s.Over = true }, func(s, t *api.State) { t.Over = true }, func(s, t *api.State) { s.Pages = s.Pages[:3] }, func(s, t *api.State) { t.Pages = nil },
 		func(s, t *api.State) { s.Pages[0].At, t.Pages[0].At = 0, 0 }, func(s, t *api.State) { s.Pages[0].Perm, t.Pages[0].Perm = 4, 4 }, func(s, t *api.State) { s.Pages[0].Data, t.Pages[0].Data = nil, nil },
-		func(s, t *api.State) { s.C.R[0] = 4 }, func(s, t *api.State) { s.C.R[2], t.C.R[2] = 8, 8 }, func(s, t *api.State) { s.C.X[2][15], t.C.X[2][15] = 1, 1 }, func(s, t *api.State) { t.C.X[0][0] = 1 }, func(s, t *api.State) { t.C.F.O = true },
+		func(s, t *api.State) { s.C.R[0] = 4 }, func(s, t *api.State) { s.C.R[2], t.C.R[2] = 8, 8 }, func(s, t *api.State) { s.C.R[2] = 8 }, func(s, t *api.State) { t.C.R[2] = 8 }, func(s, t *api.State) { t.C.X[2][0] = 8 },
+		func(s, t *api.State) { s.Pages[0].At = 0 }, func(s, t *api.State) { t.Pages[0].At = 0 }, func(s, t *api.State) { s.Pages[0].Perm = 4 }, func(s, t *api.State) { t.Pages[0].Perm = 4 }, func(s, t *api.State) { s.Pages[0].Data = nil }, func(s, t *api.State) { t.Pages[0].Data = nil }, func(s, t *api.State) { s.C.X[2][15], t.C.X[2][15] = 1, 1 }, func(s, t *api.State) { t.C.X[0][0] = 1 }, func(s, t *api.State) { t.C.F.O = true },
 		func(s, t *api.State) { s.Pages[1].Data[0] = 1 }, func(s, t *api.State) { s.Pages[1].Data[0x20], t.Pages[1].Data[0x20] = 0, 0 }, func(s, t *api.State) { s.Pages[3].Data[9]++ },
 	} {
 		s, u := good()
@@ -276,9 +277,13 @@ func TestP26_3(t *testing.T) {
 			t.Fatal("P26.5", c)
 		}
 	}
+	edges := api.Contract{Open: []api.Range{r(0x2fff, 0x2fff)}, Secret: []api.Range{r(0x3000, 0x3000)}}
+	if s := Make(edges, pages(), 0, 5, 6); s.Pages[1].Data[4095] != byte(Word(5, 64+0x2fff)) || s.Pages[2].Data[0] != byte(Word(6, 64+0x3000)) {
+		t.Error("a page's last byte, and its first one")
+	}
 	odd := api.Contract{Open: []api.Range{r(9, 3), r(0, top)}, Flags: 9}
 	odd.R[0].Kind, odd.X[0].Kind = 77, 77
-	Make(odd, []api.Page{{At: top - 3, Data: make([]byte, 9)}, {At: 5}, {At: 0, Data: make([]byte, 3)}}, 0, 1, 2)
+	Make(odd, []api.Page{{At: top - 3, Data: make([]byte, 9)}, {At: 5}, {At: 0, Data: make([]byte, 3)}, {At: 9, Data: make([]byte, 1)}}, 0, 1, 2)
 }
 
 func TestP26_4(t *testing.T) {

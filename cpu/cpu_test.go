@@ -71,6 +71,7 @@ func TestP14_2Address(t *testing.T) {
 		want uint64
 	}{
 		{operand.Mem(3, -5), c.R[3] - 5},
+		{api.Operand{Kind: 2, Base: 0, Index: 0, Scale: 2}, c.R[0] * 3},
 		{operand.Mem(-1, -1), ^uint64(0)},
 		{api.Operand{Kind: 2, Base: 2, Index: 15, Scale: 8, Disp: 1<<31 - 1}, c.R[2] + c.R[15]*8 + 1<<31 - 1},
 		{api.Operand{Kind: 2, Base: -1, Index: 1, Scale: 2}, c.R[1] * 2},

@@ -54,6 +54,8 @@ var known = []struct {
 	{"48f7f3", api.Insn{Do: api.DoDiv, Width: 8, A: reg(3)}},
 	{"c1c0ff", api.Insn{Do: api.DoRol, Width: 4, A: reg(0), B: imm(255)}},
 	{"c1f880", api.Insn{Do: api.DoSar, Width: 4, A: reg(0), B: imm(128)}},
+	{"48c1e0ff", api.Insn{Do: api.DoShl, Width: 8, A: reg(0), B: imm(255)}},
+	{"c1c8fe", api.Insn{Do: api.DoRor, Width: 4, A: reg(0), B: imm(254)}},
 	{"48d3e8", api.Insn{Do: api.DoShr, Width: 8, A: reg(0), B: reg(1)}},
 	{"48d3e0", api.Insn{Do: api.DoShl, Width: 8, A: reg(0), B: reg(1)}},
 	{"d3c8", api.Insn{Do: api.DoRor, Width: 4, A: reg(0), B: reg(1)}},

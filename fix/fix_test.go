@@ -157,6 +157,11 @@ func TestStepCallsAndReturns(t *testing.T) {
 	if _, _, why := Step(p, api.Node{At: 0x1000, A: a}); why != api.WhyStack {
 		t.Error("WhyStack goes ahead", why)
 	}
+	low := pages(nop, ret)
+	low[0].At = 0
+	if next, leak, why := Step(low, api.Node{At: 0, A: first()}); next != nil || leak+why != 0 {
+		t.Error("an instruction at the address 0", next)
+	}
 	for _, x := range []uint64{0, 0x1003, 0x2000, 0x5000} {
 		if next, leak, why := Step(p, api.Node{At: x, A: first()}); next != nil || leak+why != 0 {
 			t.Error("nothing comes of", x)

@@ -113,6 +113,15 @@ func TestMaxFound(t *testing.T) {
 	}
 }
 
+// TestBehindTooMany: what waits behind the one that is too many is not looked at, bad ones neither.
+func TestBehindTooMany(t *testing.T) {
+	l := slices.Repeat([]api.Insn{nop}, api.MaxFound-1)
+	f := Find(pages(0x1000, append(l, jz(0x4000), ret)...), 0x1000)
+	if len(f.Places) != api.MaxFound || !f.Large || len(f.Bad) != 0 {
+		t.Error(len(f.Places), f.Large, f.Bad)
+	}
+}
+
 func TestP18_2(t *testing.T) {
 	f := Find(pages(0x1000, nop, jz(1), nop, nop, jmp(-14)), 0x1000)
 	text := Text(f)
@@ -131,6 +140,9 @@ func TestP18_2(t *testing.T) {
 	}
 	if At(f, 0x1002) != -1 || At(api.Flow{}, 0) != -1 || Block(api.Flow{}, 0) != -1 || len(Text(api.Flow{})) != 0 {
 		t.Error("nothing")
+	}
+	if Block(api.Flow{Blocks: []api.Block{{Many: 9}}}, 0) != -1 || Block(api.Flow{Places: make([]api.Place, 3), Blocks: []api.Block{{Many: 9}}}, 3) != -1 {
+		t.Error("no place")
 	}
 	odd := api.Flow{Places: make([]api.Place, 3), Blocks: []api.Block{{From: -1 << 63, Many: 1<<63 - 1}, {From: 1 << 62, Many: 1 << 62}, {From: 2, Many: -1}, {From: 1, Many: 1}}}
 	for i, want := range []int{-1, 3, -1} {

@@ -96,6 +96,15 @@ func TestP3_1None(t *testing.T) {
 	if e != api.OK || !reflect.DeepEqual(h, api.Header{Entry: 1, SegOff: 1 << 63, SecOff: ^uint64(0)}) {
 		t.Error("without segments and sections", h, e)
 	}
+	b = object(api.Header{SecOff: 64, Sections: make([]api.Section, 1)}, 128)
+	b[54] = 1
+	if _, e := Read(b); e != api.OK {
+		t.Error("without segments their size may be any", e)
+	}
+	b[58] = 1
+	if _, e := Read(b); e != api.ErrKind {
+		t.Error("with sections their size may not", e)
+	}
 	many := api.Header{SegOff: 64, SecOff: 64 + 16*56, Segments: make([]api.Segment, 16), Sections: make([]api.Section, 32)}
 	if h, e := Read(object(many, 64+16*56+32*64)); e != api.OK || !reflect.DeepEqual(h, many) {
 		t.Error("as many as there may be", e)
@@ -121,6 +130,9 @@ func TestP3_2(t *testing.T) {
 	if got, e := TakeSegment(append(b, 9)); e != api.OK || got != s {
 		t.Error(got, e)
 	}
+	if got, e := TakeSegment(b); e != api.OK || got != s {
+		t.Error(got, e)
+	}
 	if got, e := TakeSegment(b[:55]); e != api.ErrShort || got != (api.Segment{}) {
 		t.Error(got, e)
 	}
@@ -139,6 +151,9 @@ func TestP3_2(t *testing.T) {
 		}
 	}
 	if got, e := TakeSection(append(b, 9)); e != api.OK || got != x {
+		t.Error(got, e)
+	}
+	if got, e := TakeSection(b); e != api.OK || got != x {
 		t.Error(got, e)
 	}
 	if got, e := TakeSection(b[:63]); e != api.ErrShort || got != (api.Section{}) {

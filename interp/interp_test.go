@@ -47,7 +47,7 @@ func TestP20_1Right(t *testing.T) {
 		want bool
 	}{
 		{good, true}, {vec, true}, {api.Deed{}, false},
-		{with(good, func(d *api.Deed) { d.Op = api.IrNone }), false}, {with(good, func(d *api.Deed) { d.Op = api.IrDeeds }), false}, {with(good, func(d *api.Deed) { d.Op = 255 }), false},
+		{with(good, func(d *api.Deed) { d.Op = api.IrNone }), false}, {with(good, func(d *api.Deed) { d.Op = api.IrDeeds }), false}, {with(good, func(d *api.Deed) { d.Op = 255 }), false}, {with(good, func(d *api.Deed) { d.Op, d.D = api.IrDeeds, 0 }), false}, {with(good, func(d *api.Deed) { d.Op, d.D = api.IrNone, 0 }), false}, {with(good, func(d *api.Deed) { d.Op, d.D = 255, 0 }), false},
 		{with(good, func(d *api.Deed) { d.W = 0 }), false}, {with(good, func(d *api.Deed) { d.W = 9 }), false}, {with(good, func(d *api.Deed) { d.W = 16 }), false}, {with(good, func(d *api.Deed) { d.W = 1 }), true}, {with(good, func(d *api.Deed) { d.W = 8 }), true},
 		{with(good, func(d *api.Deed) { d.D = -1 }), false}, {with(good, func(d *api.Deed) { d.D = 21 }), false}, {with(good, func(d *api.Deed) { d.D = 31 }), false}, {with(good, func(d *api.Deed) { d.D = 32 }), true}, {with(good, func(d *api.Deed) { d.D = 64 }), false},
 		{with(good, func(d *api.Deed) { d.A.Cell = 1 }), false}, {with(good, func(d *api.Deed) { d.B.N = 1 }), false}, {with(good, func(d *api.Deed) { d.C = cell(64) }), false}, {with(good, func(d *api.Deed) { d.C = cell(21) }), false}, {with(good, func(d *api.Deed) { d.C = cell(-1) }), false},

@@ -153,6 +153,14 @@ func TestP12_3(t *testing.T) {
 	}
 }
 
+// TestEmptyAhead has a page of no bytes at the address itself, ahead of one that has it.
+func TestEmptyAhead(t *testing.T) {
+	p := []api.Page{{At: 5, Perm: 4}, {At: 0, Perm: 4, Data: []byte{0, 1, 2, 3, 4, 5, 6, 7}}}
+	if b, e := Read(p, 5, 3); e != api.OK || !bytes.Equal(b, []byte{5, 6, 7}) {
+		t.Error(b, e)
+	}
+}
+
 func TestP12_4AndOddPages(t *testing.T) {
 	rng := rand.New(rand.NewSource(14))
 	for range 3000 {

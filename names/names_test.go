@@ -50,6 +50,11 @@ func TestP4_1(t *testing.T) {
 	if l, e := Read(b, api.Header{Sections: []api.Section{{Kind: 3}, {Kind: 1}}}); e != api.OK || len(l) != 0 {
 		t.Error("no table", l, e)
 	}
+	ahead := api.Header{Sections: []api.Section{h.Sections[1], h.Sections[2]}}
+	ahead.Sections[0].Link = 1
+	if l, e := Read(b, ahead); e != api.OK || !reflect.DeepEqual(l, want) {
+		t.Error("a table ahead of all", l, e)
+	}
 	h.Sections[1].Size = 0
 	if l, e := Read(b, h); e != api.OK || len(l) != 0 {
 		t.Error("an empty table", l, e)
@@ -82,6 +87,12 @@ func TestP4_1Wrong(t *testing.T) {
 		{func(b []byte, h *api.Header) { h.Sections[2].Size-- }, api.ErrPlace},
 		{func(b []byte, h *api.Header) { b[10+24*3] = 8 }, api.ErrPlace},
 		{func(b []byte, h *api.Header) { b[10+24*3+3] = 1 }, api.ErrPlace},
+		{func(b []byte, h *api.Header) { b[10+24] = 8 }, api.ErrPlace},
+		{func(b []byte, h *api.Header) { h.Sections[1].Size, h.Sections[1].Off = 0, uint64(len(b)) }, api.OK},
+		{func(b []byte, h *api.Header) { h.Sections[1].Size, h.Sections[1].Off = 0, uint64(len(b))+1 }, api.ErrPlace},
+		{func(b []byte, h *api.Header) {
+			h.Sections[1].Size, h.Sections[2].Size, h.Sections[2].Off = 0, 0, uint64(len(b))
+		}, api.OK},
 		{func(b []byte, h *api.Header) { b[10] = 0xff }, api.OK},
 		{func(b []byte, h *api.Header) { h.Sections[1].Each = 1; h.Sections[1].Off = 1 << 40 }, api.ErrKind},
 	} {

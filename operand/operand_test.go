@@ -39,7 +39,7 @@ func TestP8_1(t *testing.T) {
 	for i, c := range []struct {
 		o    api.Operand
 		want []int
-	}{{Reg(3), nil}, {rip, nil}, {Mem(3, 0), []int{3}}, {mem(-1, 5, 1, 0), []int{5}}, {mem(7, 5, 1, 0), []int{7, 5}}, {mem(5, 5, 1, 0), []int{5, 5}}, {api.Operand{}, nil}, {api.Operand{Kind: 3}, nil}} {
+	}{{Reg(3), nil}, {rip, nil}, {Mem(0, 0), []int{0}}, {mem(0, 0, 1, 0), []int{0, 0}}, {Mem(3, 0), []int{3}}, {mem(-1, 5, 1, 0), []int{5}}, {mem(7, 5, 1, 0), []int{7, 5}}, {mem(5, 5, 1, 0), []int{5, 5}}, {api.Operand{}, nil}, {api.Operand{Kind: 3}, nil}} {
 		if l := Uses(c.o); len(l) != len(c.want) || len(l) > 0 && !reflect.DeepEqual(l, c.want) {
 			t.Error(i, l)
 		}

@@ -80,9 +80,9 @@ func TestMachine(t *testing.T) {
 	s.C.F = api.Flags{C: true, Z: true, S: true, O: true, P: true}
 	s.Pages = []api.Page{page(0x1000, 5), page(0x2000, 6), page(0x3000, 0), {At: top - 3, Perm: 7, Data: make([]byte, 34)}, {Perm: 8}}
 	s.Pages[0].Data[0], s.Pages[0].Data[4095] = 0x1f, 0xa0
-	s.Pages[3].Data[33] = 9
+	s.Pages[3].Data[33], s.Pages[3].Data[32] = 9, 8
 	want := "ip 0x1000\nrax 0x1\nrsp 0xffffffffffffffff\nr15 0xabc\nxmm0 0x0 0x5\nxmm9 0xf0 0x0\nxmm15 0xffffffffffffffff 0x1\nflags c z s o p\nover\n" +
-		"page 0x1000 rx\nbytes 0x1000 1f" + strings.Repeat("00", 31) + "\nbytes 0x1fe0 " + strings.Repeat("00", 31) + "a0\npage 0x2000 rw\npage 0x3000 -\npage 0xfffffffffffffffc rwx\nbytes 0x1c 0009\npage 0x0 -\n"
+		"page 0x1000 rx\nbytes 0x1000 1f" + strings.Repeat("00", 31) + "\nbytes 0x1fe0 " + strings.Repeat("00", 31) + "a0\npage 0x2000 rw\npage 0x3000 -\npage 0xfffffffffffffffc rwx\nbytes 0x1c 0809\npage 0x0 -\n"
 	if got := Machine(s); got != want {
 		t.Error(got)
 	}

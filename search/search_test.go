@@ -5,6 +5,7 @@ import (
 	"slices"
 	"sync"
 	"testing"
+	"time"
 
 	"sundial/api"
 	"sundial/contract"
@@ -100,6 +101,11 @@ func TestP27_2(t *testing.T) {
 			t.Error("no fuel", n, ok)
 		}
 	}
+	over := step.Own(s)
+	over.Over = true
+	if n, ok := Try(s, over, 100); !ok || n != 0 {
+		t.Error("a machine that is over", n, ok)
+	}
 	if n, ok := Try(s, s, 100); ok || n != 0 {
 		t.Error("the same machine", n, ok)
 	}
@@ -190,6 +196,12 @@ func TestUntil(t *testing.T) {
 	c, p := parsed(t, all), pages(load, ret)
 	closed := make(chan struct{})
 	close(closed)
+	if _, ok := lowest(3, func(i int) (int, bool) {
+		time.Sleep(100 * time.Millisecond)
+		return i, true
+	}, closed); ok {
+		t.Error("found, and yet it was to stop ahead of it")
+	}
 	Until(closed, c, p, 0x1000, 200, 100)
 }
 

@@ -89,6 +89,21 @@ func TestEnds(t *testing.T) {
 	}
 }
 
+// TestOdd steps machines whose pages may not be: code that is written while it runs.
+func TestOdd(t *testing.T) {
+	s := api.State{Pages: []api.Page{{At: 3, Perm: 7, Data: []byte{0x88, 0x00, 0x90, 0xc3}}}}
+	s.C.IP, s.C.R[0] = 3, 5
+	m := New(s)
+	m.Step()
+	if g := m.State(); g.Pages[0].Data[2] != 5 || g.C.IP != 5 {
+		t.Error(g)
+	}
+	m.Step()
+	if g := m.State(); !g.Over {
+		t.Error("what was written is not what is done", g)
+	}
+}
+
 func TestP16_1(t *testing.T) {
 	s := machine(rand.New(rand.NewSource(21)))
 	own := Own(s)

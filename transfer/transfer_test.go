@@ -68,6 +68,9 @@ func TestP24_1(t *testing.T) {
 	for i, change := range []func(a *api.Abs, s, t *api.State){
 		func(a *api.Abs, s, t *api.State) { s.Over = true }, func(a *api.Abs, s, t *api.State) { t.Over = true }, func(a *api.Abs, s, t *api.State) { t.C.IP = 1 },
 		func(a *api.Abs, s, t *api.State) { s.C.R[0], t.C.R[0] = 9, 9 }, func(a *api.Abs, s, t *api.State) { s.C.R[0] = 12 }, func(a *api.Abs, s, t *api.State) { a.V[0] = strided.None() },
+		func(a *api.Abs, s, t *api.State) { a.V[1] = strided.One(5) }, func(a *api.Abs, s, t *api.State) { a.V[1] = strided.One(0) },
+		func(a *api.Abs, s, t *api.State) { a.Slots[0] = api.Slot{At: 0x2010, To: 0x1716151413121110, Ok: true} }, func(a *api.Abs, s, t *api.State) { a.Slots[0] = api.Slot{At: 0x2010, To: 0x1716151413121111, Ok: true} },
+		func(a *api.Abs, s, t *api.State) { s.Pages[1].Data = s.Pages[1].Data[:9] }, func(a *api.Abs, s, t *api.State) { t.Pages[1].Data = t.Pages[1].Data[:9] },
 		func(a *api.Abs, s, t *api.State) { a.D[1] = false }, func(a *api.Abs, s, t *api.State) { a.X[2] = false }, func(a *api.Abs, s, t *api.State) { s.C.F.Z = true },
 		func(a *api.Abs, s, t *api.State) { s.C.F.Z, t.C.F.Z, a.V[api.CellZ] = true, true, strided.One(0) },
 		func(a *api.Abs, s, t *api.State) { a.Dirt = nil }, func(a *api.Abs, s, t *api.State) { t.Pages[1].Data[4095]++ },
@@ -147,6 +150,9 @@ func TestDiffers(t *testing.T) {
 	if got, went := Run(a, nil, api.Deed{Op: api.IrCopy, W: 9, D: 0}, api.Deed{Op: api.IrGo, W: 8, D: 1, A: num(5)}); !Same(got, a) || went.To != nil {
 		t.Error("deeds that may not be")
 	}
+	if got, went := Run(a, nil, api.Deed{}, deed(api.IrCopy, 8, 1, num(7)), api.Deed{Op: 99}, deed(api.IrGo, 8, 0, num(5), num(5), num(1))); got.V[1] != strided.One(7) || !slices.Equal(went.To, []api.Set{strided.One(5)}) {
+		t.Error("deeds behind one that may not be")
+	}
 }
 
 func TestLoads(t *testing.T) {
@@ -170,6 +176,7 @@ func TestLoads(t *testing.T) {
 		{strided.One(0x3004), false, 4, []api.Range{{Low: 0x3007, High: 0x3007}}, 0, strided.All(4), true},
 		{strided.One(0x3004), false, 4, []api.Range{{Low: 0x3008, High: 0x3008}}, 0, strided.One(0x07060504), false},
 		{set(0x100, 0x3000, 0x3100), false, 1, []api.Range{{Low: 0x3050, High: 0x3050}}, 0, strided.One(0), true},
+		{strided.One(0x3008), false, 8, nil, 0, strided.One(0x0f0e0d0c0b0a0908), false},
 		{strided.None(), false, 8, nil, 0, strided.All(8), false},
 		{strided.None(), false, 8, []api.Range{{Low: 5, High: 5}}, 0, strided.All(8), true},
 		{strided.One(^uint64(0)), false, 2, []api.Range{{Low: 77, High: 77}}, 0, strided.All(2), true},
@@ -194,6 +201,15 @@ func TestLoads(t *testing.T) {
 		if got.X[3] != want || went.Leak != 0 {
 			t.Error("vector", i, got.X[3])
 		}
+	}
+}
+
+// TestFirstPage loads from the first of all pages, which can't be written.
+func TestFirstPage(t *testing.T) {
+	a := Top()
+	a.V[0] = strided.One(0x3005)
+	if got, _ := Run(a, pages()[1:], deed(api.IrLoad, 1, 1, cell(0))); got.V[1] != strided.One(5) {
+		t.Error(got.V[1])
 	}
 }
 
@@ -308,6 +324,12 @@ func TestGoAndDiv(t *testing.T) {
 	a.D[0] = true
 	if _, went := Run(a, nil, deed(api.IrGo, 8, 0, num(5), num(5), cell(0))); went.Leak != 0 || !slices.Equal(went.To, []api.Set{strided.One(5)}) {
 		t.Error("a branch over nothing", went)
+	}
+	a.V[1] = strided.One(0)
+	for i, takes := range [][2]api.Val{{cell(1), num(0)}, {num(0), cell(1)}, {cell(1), cell(1)}, {num(1), num(0)}} {
+		if _, went := Run(a, nil, deed(api.IrGo, 8, 0, takes[0], takes[1], cell(0))); went.Leak != api.LeakBranch {
+			t.Error("not the same number", i, went)
+		}
 	}
 	for k := range 3 {
 		takes := []api.Val{num(1), num(1), num(1)}

@@ -50,6 +50,7 @@ func TestP6_1(t *testing.T) {
 		{func(p *api.Image) { p.Pages[0].Data = append(p.Pages[0].Data, 0) }, false},
 		{func(p *api.Image) { p.Pages[0].Data = nil }, false},
 		{func(p *api.Image) { p.Symbols[0].Name = "a\x00" }, false},
+		{func(p *api.Image) { p.Symbols[2].Name = "\x00a" }, false},
 		{func(p *api.Image) { p.Symbols = make([]api.Symbol, 199) }, true},
 		{func(p *api.Image) { p.Symbols = make([]api.Symbol, 200) }, false},
 	} {
