@@ -106,7 +106,7 @@ func TestSets(t *testing.T) {
 		a, b, c api.Set
 		want    api.Set
 	}{
-		{api.IrCopy, 1, one, one, one, strided.One(0xff)}, {api.IrCopy, 4, small, one, one, small}, {api.IrCopy, 4, big, one, one, strided.All(4)}, {api.IrCopy, 8, big, one, one, big}, {api.IrCopy, 8, none, one, one, none},
+		{api.IrCopy, 1, one, one, one, strided.One(0xff)}, {api.IrCopy, 1, one, small, small, strided.One(0xff)}, {api.IrSub, 1, one, small, strided.One(0), set(4, 215, 255)}, {api.IrCopy, 4, small, one, one, small}, {api.IrCopy, 4, big, one, one, strided.All(4)}, {api.IrCopy, 8, big, one, one, big}, {api.IrCopy, 8, none, one, one, none},
 		{api.IrAdd, 4, small, strided.One(3), strided.One(0), set(4, 3, 43)}, {api.IrAdd, 4, small, strided.One(3), strided.One(1), strided.All(4)}, {api.IrAdd, 4, strided.One(4), strided.One(3), strided.One(1), strided.One(8)}, {api.IrAdd, 4, small, small, set(1, 0, 1), strided.All(4)},
 		{api.IrSub, 4, small, strided.One(0), strided.One(0), small}, {api.IrSub, 4, small, strided.One(3), strided.One(0), strided.All(4)}, {api.IrSub, 4, strided.One(50), small, strided.One(0), set(4, 10, 50)},
 		{api.IrAnd, 8, small, strided.One(7), strided.One(0), set(1, 0, 7)}, {api.IrAnd, 8, strided.One(7), small, strided.One(0), set(1, 0, 7)}, {api.IrAnd, 1, big, strided.One(0xf30), strided.One(0), set(16, 0, 0x30)}, {api.IrAnd, 8, small, small, strided.One(0), strided.All(8)},
