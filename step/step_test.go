@@ -57,9 +57,6 @@ func TestEnds(t *testing.T) {
 	if g2, l := Step(g); !Same(g2, g) || len(l) != 0 {
 		t.Error("over", l)
 	}
-	if g2, l := Do(g, api.Insn{Do: api.DoNop, Width: 8}); !Same(g2, g) || len(l) != 0 {
-		t.Error("done when over", l)
-	}
 	s.C.IP = 0x4000
 	if g, l := Step(s); !g.Over || g.C != s.C || !reflect.DeepEqual(l, []api.Event{{Kind: api.EvFault, N: api.FaultFetch, A: 0x4000}}) {
 		t.Error("fetch", l)
@@ -86,6 +83,40 @@ func TestEnds(t *testing.T) {
 	s.Pages[0].Data[4095] = 0x90
 	if x, f := At(s); x != (api.Insn{Do: api.DoNop, Width: 8, Len: 1}) || f != api.FaultNone {
 		t.Error("At", x, f)
+	}
+}
+
+// TestDoWhenOver holds what is done of a machine that is over against what is done of the same one that is not.
+func TestDoWhenOver(t *testing.T) {
+	rng := rand.New(rand.NewSource(46))
+	for range 5000 {
+		x := some(rng)
+		s := machine(rng)
+		over := Own(s)
+		over.Over = true
+		g, l := Do(s, x)
+		h, k := Do(over, x)
+		g.Over = true
+		if !Same(g, h) || !reflect.DeepEqual(l, k) {
+			t.Fatal(x, l, k)
+		}
+		if h, k := Step(over); !Same(h, over) || len(k) != 0 {
+			t.Fatal("a step", k)
+		}
+	}
+	s := machine(rng)
+	s.Over = true
+	want := Own(s)
+	want.C.R[0], want.C.IP = 7, 0x1003
+	if g, l := Do(s, api.Insn{Do: api.DoMov, Width: 8, A: reg(0), B: imm(7), Len: 3}); !Same(g, want) || len(l) != 0 {
+		t.Error("mov", l)
+	}
+	if g, l := Do(s, api.Insn{}); !Same(g, s) || !reflect.DeepEqual(l, []api.Event{{Kind: api.EvFault, N: api.FaultCode, A: 0x1000}}) {
+		t.Error("no instruction", l)
+	}
+	events := []api.Event{load(0x5000, 8), {Kind: api.EvFault, N: api.FaultRead, A: 0x5000}}
+	if g, l := Do(s, api.Insn{Do: api.DoMov, Width: 8, A: reg(0), B: mem(-1, 0x5000)}); !Same(g, s) || !reflect.DeepEqual(l, events) {
+		t.Error("a fault", l)
 	}
 }
 
