@@ -50,10 +50,16 @@ func TestP26_1Parse(t *testing.T) {
 			t.Error(name, e)
 		}
 	}
-	if c, e := Parse("secret 0xfffffffffffffffe 9\nopen 0 0xfffffffffffffffe"); e != api.OK || !slices.Equal(c.Secret, []api.Range{r(top-1, top)}) || !slices.Equal(c.Open, []api.Range{r(0, top-2)}) {
+	if c, e := Parse("secret 0xfffffffffffffffe 2\nopen 0 0xfffffffffffffffe"); e != api.OK || !slices.Equal(c.Secret, []api.Range{r(top-1, top)}) || !slices.Equal(c.Open, []api.Range{r(0, top-2)}) {
 		t.Error("up to the last one of all", c, e)
 	}
+	for text, want := range map[string]api.Range{"secret 18446744073709551600 16": r(top-15, top), "secret 18446744073709551615 1": r(top, top), "secret 1 18446744073709551615": r(1, top), "secret 0 18446744073709551615": r(0, top-1)} {
+		if c, e := Parse(text); e != api.OK || !slices.Equal(c.Secret, []api.Range{want}) {
+			t.Error(text, c, e)
+		}
+	}
 	for _, wrong := range []string{
+		"secret 18446744073709551615 2", "open 0xffffffffffffffff 0x2", "secret 0xfffffffffffffffe 9", "secret 2 18446744073709551615", "open 18446744073709551600 17", "open 0xffffffffffffffff 0xffffffffffffffff", "rax secret\nsecret 0xffffffffffffffff 2\n",
 		"rax", "rax ", " rax secret", "rax  secret", "rax secret ", "rax secret\r", "RAX secret", "rax Secret", "r0 secret", "r7 open", "r08 open", "r16 open", "xmm16 open", "xmm open", "xmm01 open", "eax secret", "rip 5", "flags 5", "flags 0", "flags", "rax fixed",
 		"rax 05", "rax 00", "rax 0x", "rax 0xA", "rax 0X1", "rax 0x00000000000000001", "rax 18446744073709551616", "rax -1", "rax +1", "rax 1_0", "rax 1a", "rax 0x1g", "rax 0b1",
 		"rax secret\nrax secret", "rax secret\nrax open", "rax open\nrax 5", "xmm1 5\nxmm1 5", "flags open\nflags open",

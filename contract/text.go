@@ -106,8 +106,8 @@ func (p *parsing) ranged(words []string) bool {
 		return false
 	}
 	r := api.Range{Low: at, High: at + (many - 1)}
-	if r.High < at {
-		r.High = ^uint64(0)
+	if r.High < r.Low {
+		return false
 	}
 	switch words[0] {
 	case wordOpen:
