@@ -74,6 +74,29 @@ func TestTablesTogether(t *testing.T) {
 	w.Wait()
 }
 
+// TestWhoReadsTables garbles the tables that are made once: Back alone answers by them.
+func TestWhoReadsTables(t *testing.T) {
+	var block, key [16]byte
+	for i := range block {
+		block[i], key[i] = byte(i*37), byte(i*91)
+	}
+	Back()
+	told := func() ([256]byte, [16]byte, [16]byte) { return Box(), Round(block, key), Last(block, key) }
+	boxes, round, last := told()
+	wasBox, wasBack := box, back
+	defer func() { box, back = wasBox, wasBack }()
+	if box != boxes {
+		t.Error("the table of boxes")
+	}
+	box, back = [256]byte{}, [256]byte{9}
+	if b, r, l := told(); b != boxes || r != round || l != last {
+		t.Error("read by another one than Back")
+	}
+	if Back() != [256]byte{9} {
+		t.Error("made anew")
+	}
+}
+
 // expanded is the schedule of keys of AES with 128 bits.
 func expanded(key [16]byte) [11][16]byte {
 	box := Box()
